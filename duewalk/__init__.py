@@ -1,0 +1,1 @@
+"""Duewalk: places that must be seen to in time, for ever."""

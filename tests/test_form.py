@@ -1,0 +1,103 @@
+"""The form of the package: those rules of its Python subset that a short look at the code can see."""
+
+import ast
+import os
+import unittest
+
+ROOT = os.path.join(os.path.dirname(os.path.abspath(__file__)), os.pardir)
+PACKAGE = os.path.join(ROOT, "duewalk")
+LIBRARY = ("heapq", "math", "itertools", "collections", "__future__")
+DUNDERS = ("__init__", "__str__", "__eq__", "__repr__", "__len__")
+CALLED = """len range enumerate zip min max sum abs sorted reversed int str bool list tuple dict set isinstance ord repr
+any all divmod""".split()
+METHODS = """append clear copy count endswith extend find get index insert isalnum isalpha isdigit islower isspace isupper
+items join keys ljust lower lstrip partition pop remove replace reverse rfind rjust rpartition rsplit rstrip setdefault
+split splitlines startswith strip update upper values zfill bit_length add discard popleft appendleft""".split()
+BARRED_NAMES = "register mro elements open input law version_info with_traceback add_note args".split()
+BARRED_NODES = (
+    ast.AsyncFunctionDef, ast.AsyncFor, ast.AsyncWith, ast.Await, ast.Div, ast.Global, ast.JoinedStr, ast.Lambda,
+    ast.MatMult, ast.SetComp, ast.Starred, ast.GeneratorExp, ast.Import,
+)
+BARRED_WORDS = """type typing typing_extensions enum Enum Generic Protocol ABC namedtuple NamedTuple TypedDict
+abstractmethod""".split()
+
+
+def sources():
+    for name in sorted(os.listdir(PACKAGE)):
+        if name != "__pycache__":
+            with open(os.path.join(PACKAGE, name), encoding="utf-8", newline="") as file:
+                yield name, file.read()
+
+
+class Form(unittest.TestCase):
+    def test_files(self):
+        names = [name for name, _ in sources()]
+        self.assertIn("__init__.py", names)
+        for name in names:
+            self.assertRegex(name, r"\A[a-z_][a-z0-9_]*\.py\Z")
+
+    def test_characters_and_sizes(self):
+        for name, text in sources():
+            self.assertRegex(text, r"\A[ -~\n]*\Z", name)
+            rows = text.split("\n")
+            self.assertLessEqual(len(rows), 400, name)
+            self.assertLessEqual(max(len(row) for row in rows), 120, name)
+            for node in ast.walk(ast.parse(text)):
+                if isinstance(node, ast.FunctionDef):
+                    self.assertLessEqual(node.end_lineno - node.lineno + 1, 40, (name, node.name))
+
+    def test_module_level(self):
+        for name, text in sources():
+            bound = []
+            for at, node in enumerate(ast.parse(text).body):
+                if isinstance(node, ast.ImportFrom):
+                    self.assertIn((node.module or "").split(".")[0], ("duewalk",) + LIBRARY, name)
+                    self.assertTrue(node.level == 0 and all(alias.asname is None for alias in node.names), name)
+                    bound.extend(alias.name for alias in node.names)
+                elif isinstance(node, ast.Assign):
+                    ast.literal_eval(node.value)
+                    bound.append(node.targets[0].id)
+                elif isinstance(node, (ast.FunctionDef, ast.ClassDef)):
+                    bound.append(node.name)
+                else:
+                    self.assertTrue(at == 0 and isinstance(node.value, ast.Constant), (name, node.lineno))
+            self.assertEqual(len(bound), len(set(bound)), name)
+
+    def test_nodes(self):
+        for name, text in sources():
+            own = {node.name for node in ast.walk(ast.parse(text)) if isinstance(node, (ast.FunctionDef, ast.ClassDef))}
+            own |= {alias.name for node in ast.parse(text).body if isinstance(node, ast.ImportFrom) for alias in node.names}
+            for node in ast.walk(ast.parse(text)):
+                where = (name, getattr(node, "lineno", 0))
+                self.assertNotIsInstance(node, BARRED_NODES, where)
+                if isinstance(node, ast.Constant):
+                    self.assertNotIsInstance(node.value, (float, complex), where)
+                if isinstance(node, ast.Compare) and any(isinstance(op, (ast.Is, ast.IsNot)) for op in node.ops):
+                    self.assertIsInstance(node.comparators[0], ast.Constant, where)
+                if isinstance(node, ast.Call) and isinstance(node.func, ast.Name):
+                    self.assertIn(node.func.id, CALLED + sorted(own), where)
+                if isinstance(node, ast.FunctionDef) and node.name.startswith("__"):
+                    self.assertIn(node.name, DUNDERS, where)
+                if isinstance(node, ast.FunctionDef):
+                    self.assertLessEqual({mark.id for mark in node.decorator_list}, {"staticmethod"}, where)
+
+    def test_methods_that_are_called(self):
+        trees = [ast.parse(text) for _, text in sources()]
+        own = [node.name for tree in trees for node in ast.walk(tree) if isinstance(node, ast.FunctionDef)]
+        for tree in trees:
+            for node in ast.walk(tree):
+                if isinstance(node, ast.Call) and isinstance(node.func, ast.Attribute):
+                    self.assertIn(node.func.attr, METHODS + own, node.lineno)
+
+    def test_words(self):
+        for name, text in sources():
+            for node in ast.walk(ast.parse(text)):
+                for field in ("id", "arg", "attr", "name"):
+                    word = getattr(node, field, None)
+                    self.assertNotIn(word, BARRED_NAMES + BARRED_WORDS, name)
+                    if isinstance(word, str) and word.startswith("__"):
+                        self.assertIn(word, DUNDERS, name)
+
+
+if __name__ == "__main__":
+    unittest.main()
