@@ -59,9 +59,14 @@ def is_whole(value):
     return isinstance(value, int) and not isinstance(value, bool)
 
 
+def is_pair(value):
+    """Whether any value is a tuple of two things."""
+    return isinstance(value, tuple) and len(value) == 2
+
+
 def is_standing(site, value):
     """Whether any value is a standing."""
-    if not _is_pair(value):
+    if not is_pair(value):
         return False
     walkers, waits = value
     return _are_walkers(site, walkers) and _are_waits(site, walkers, waits)
@@ -128,10 +133,6 @@ def _check_standing(site, value):
         raise BadStanding()
 
 
-def _is_pair(value):
-    return isinstance(value, tuple) and len(value) == 2
-
-
 def _are_walkers(site, value):
     if not isinstance(value, tuple) or not 1 <= len(value) <= MOST_WALKERS:
         return False
@@ -139,7 +140,7 @@ def _are_walkers(site, value):
 
 
 def _is_walker(site, value):
-    if not _is_pair(value):
+    if not is_pair(value):
         return False
     place, left = value
     return is_place(site, place) and is_whole(left) and 0 <= left <= _most_left(site, place)

@@ -1,6 +1,7 @@
 """The form of the package: those rules of its Python subset that a short look at the code can see."""
 
 import ast
+import builtins
 import os
 import unittest
 
@@ -15,11 +16,20 @@ items join keys ljust lower lstrip partition pop remove replace reverse rfind rj
 split splitlines startswith strip update upper values zfill bit_length add discard popleft appendleft""".split()
 BARRED_NAMES = "register mro elements open input law version_info with_traceback add_note args".split()
 BARRED_NODES = (
-    ast.AsyncFunctionDef, ast.AsyncFor, ast.AsyncWith, ast.Await, ast.Div, ast.Global, ast.JoinedStr, ast.Lambda,
-    ast.MatMult, ast.SetComp, ast.Starred, ast.GeneratorExp, ast.Import,
+    ast.AsyncFunctionDef, ast.AsyncFor, ast.AsyncWith, ast.Await, ast.Div, ast.Global, ast.JoinedStr, ast.MatMult,
+    ast.SetComp, ast.Starred, ast.GeneratorExp, ast.Import,
 )
 BARRED_WORDS = """type typing typing_extensions enum Enum Generic Protocol ABC namedtuple NamedTuple TypedDict
 abstractmethod""".split()
+
+INTERFACE = {
+    "sites.py": "Site turned with_limits",
+    "walks.py": "start_of moves_from stepped has_breach followed",
+    "keeping.py": "calm_standings safe_table time_table are_safe kept_plan is_plan longest_time fewest_walkers",
+    "tours.py": "greatest_waits keeps_limits distances way_back shortest_tour",
+    "limits.py": "least_limit tight_limits stretch",
+    "late.py": "least_share share_loop share_weights are_weights",
+}
 
 
 def sources():
@@ -63,10 +73,25 @@ class Form(unittest.TestCase):
                     self.assertTrue(at == 0 and isinstance(node.value, ast.Constant), (name, node.lineno))
             self.assertEqual(len(bound), len(set(bound)), name)
 
+    def test_interface(self):
+        for name, text in sources():
+            defined = [node.name for node in ast.parse(text).body if isinstance(node, (ast.FunctionDef, ast.ClassDef))]
+            self.assertLessEqual(set(INTERFACE.get(name, "").split()), set(defined), name)
+
+    def test_no_two_files_import_from_each_other(self):
+        above = {name: {node.module.split(".")[1] + ".py" for node in ast.parse(text).body
+                        if isinstance(node, ast.ImportFrom) and node.module.startswith("duewalk.")}
+                 for name, text in sources()}
+        while above:
+            free = [name for name in above if not above[name] & set(above)]
+            self.assertTrue(free, above)
+            above = {name: above[name] for name in above if name not in free}
+
     def test_nodes(self):
         for name, text in sources():
             own = {node.name for node in ast.walk(ast.parse(text)) if isinstance(node, (ast.FunctionDef, ast.ClassDef))}
             own |= {alias.name for node in ast.parse(text).body if isinstance(node, ast.ImportFrom) for alias in node.names}
+            own |= {node.arg for node in ast.walk(ast.parse(text)) if isinstance(node, ast.arg)}
             for node in ast.walk(ast.parse(text)):
                 where = (name, getattr(node, "lineno", 0))
                 self.assertNotIsInstance(node, BARRED_NODES, where)
@@ -80,6 +105,19 @@ class Form(unittest.TestCase):
                     self.assertIn(node.name, DUNDERS, where)
                 if isinstance(node, ast.FunctionDef):
                     self.assertLessEqual({mark.id for mark in node.decorator_list}, {"staticmethod"}, where)
+
+    def test_no_name_is_given_another_meaning(self):
+        for name, text in sources():
+            tree = ast.parse(text)
+            taken = {alias.name for node in tree.body if isinstance(node, ast.ImportFrom) for alias in node.names}
+            taken |= {node.name for node in tree.body if isinstance(node, ast.ClassDef)} | set(dir(builtins))
+            for node in ast.walk(tree):
+                if isinstance(node, ast.arg):
+                    self.assertNotIn(node.arg, taken, (name, node.lineno))
+                if isinstance(node, ast.Name) and isinstance(node.ctx, ast.Store):
+                    self.assertNotIn(node.id, taken, (name, node.lineno))
+                if isinstance(node, ast.FunctionDef):
+                    self.assertNotIn(node.name, dir(builtins), (name, node.lineno))
 
     def test_methods_that_are_called(self):
         trees = [ast.parse(text) for _, text in sources()]
