@@ -22,6 +22,7 @@ RANDOM = some_cases(40, 40, 4, 200)
 SMALL_ENOUGH = [
     ("a 6 -> e 1\nb 4 -> a 3 d 3 e 1\nc 4 stay\nd 6 -> a 1 b 3\ne 8 -> d 1", ["e", "e"], 600, 1037),
     ("a 6 -> c 1 d 1\nb 4 stay -> c 1 d 3\nc 1 -> a 3 b 1 d 1\nd 1 -> a 1 b 1", ["b", "b"], 600, 2112),
+    ("a 8 stay -> b 1 c 1\nb 9 stay -> a 1 c 1\nc 7 stay -> b 1\nd 6 -> b 1", ["a", "c"], 584, 4000),
 ]
 TOO_LARGE = [
     ("a 9 -> e 1\nb 2 -> a 2 c 2 d 1 e 1\nc 8 stay -> a 1 b 2\nd 4 stay -> a 1 e 1\ne 2 -> a 1 b 1 c 2", ["e"], 601, 1373),
