@@ -26,11 +26,12 @@ class Graph:
         return None
 
 
-def explored(beginning, steps_from, most_nodes, most_steps):
-    """The graph of what can be reached from a node; raises TooLarge().
+def explored(beginning, steps_from, most_nodes=None, most_steps=None):
+    """The graph of what can be reached from a node; raises TooLarge() if it has more than may be.
 
     steps_from(node) gives a list of pairs (label, next node). A step that is not to be
     made has None as its next node: it gives no arrow, but it counts among the steps.
+    The nodes are numbered by the least number of arrows that lead to them.
     """
     graph = Graph(beginning)
     many = 0
@@ -42,7 +43,7 @@ def explored(beginning, steps_from, most_nodes, most_steps):
                 row.append((label, graph.number_of(node)))
         graph.arrows.append(row)
         many += len(steps)
-        if many > most_steps or len(graph.nodes) > most_nodes:
+        if _is_above(many, most_steps) or _is_above(len(graph.nodes), most_nodes):
             raise TooLarge()
     return graph
 
@@ -52,22 +53,38 @@ def lost_times(rows):
 
     rows has for each number a list of arrows.
     """
-    before = _starts_before(rows)
-    left = [len(row) for row in rows]
+    return round_times([[[end for _, end in row]] for row in rows])
+
+
+def round_times(rows):
+    """A dict from the numbers from which one who asks can end all walks to their times, found by rounds.
+
+    rows has for each number a list that has, for each thing that may be asked there, the
+    list of the ends of its answers.
+    """
+    before = _answers_before(rows)
+    left = [[len(ends) for ends in row] for row in rows]
     times = {}
     time = 0
-    ended = [number for number, row in enumerate(rows) if not row]
+    ended = [number for number, row in enumerate(left) if 0 in row]
     while ended:
-        later = []
+        times.update({number: time for number in ended})
+        later = {}
         for number in ended:
-            times[number] = time
-            for start in before[number]:
-                left[start] -= 1
-                if left[start] == 0:
-                    later.append(start)
-        ended = later
+            for start, index in before[number]:
+                left[start][index] -= 1
+                if left[start][index] == 0 and start not in times:
+                    later[start] = True
+        ended = list(later)
         time += 1
     return times
+
+
+def time_of(ends, times):
+    """The time of what is asked if its answers have some ends, None if it has none."""
+    if not all([end in times for end in ends]):
+        return None
+    return max([times[end] + 1 for end in ends], default=0)
 
 
 def distances_to(rows, goal):
@@ -100,6 +117,25 @@ def shortest_way(rows, start, goal):
         label, at = nearer[0]
         labels.append(label)
     return labels
+
+
+def way_to(rows, goal):
+    """The labels of as few arrows as lead from the number 0 to a goal, none if it is the goal."""
+    return [] if goal == 0 else shortest_way(rows, 0, goal)
+
+
+def _is_above(many, most):
+    return most is not None and many > most
+
+
+def _answers_before(rows):
+    """For each number, the answers that lead to it: their starts, and the indexes of what is asked."""
+    before = [[] for _ in rows]
+    for start, row in enumerate(rows):
+        for index, ends in enumerate(row):
+            for end in ends:
+                before[end].append((start, index))
+    return before
 
 
 def _starts_before(rows):

@@ -1,6 +1,6 @@
 """What can be kept for ever: calm standings, safe and lost ones, and plans."""
 
-from duewalk.errors import BadStarts
+from duewalk.errors import BadStarts, NotKept
 from duewalk.graphs import explored, lost_times
 from duewalk.walks import behind, is_breached, is_pair, is_standing, moves_of, start_of
 
@@ -57,14 +57,7 @@ def kept_plan(site, starts):
 
 def is_plan(site, starts, plan):
     """Whether any value is a plan; raises BadStarts(), then TooLarge()."""
-    graph = calm_graph(site, starts)
-    if not is_pair(plan):
-        return False
-    run, loop = plan
-    if not isinstance(run, list) or not isinstance(loop, list) or not loop:
-        return False
-    entry = _number_behind(graph, 0, run)
-    return entry is not None and _number_behind(graph, entry, loop) == entry
+    return is_plan_of(calm_graph(site, starts), plan)
 
 
 def longest_time(site, starts):
@@ -83,15 +76,46 @@ def fewest_walkers(site, starts):
     return None
 
 
-def calm_graph(site, starts):
+def calm_graph(site, starts, most_standings=MOST_STANDINGS):
     """The calm standings with the moves that are not bad; raises BadStarts(), then TooLarge()."""
-    beginning = start_of(site, starts)
-    return explored(beginning, lambda standing: _calm_steps(site, standing), MOST_STANDINGS, MOST_MOVES)
+    return graph_from(site, start_of(site, starts), most_standings)
+
+
+def kept_graph(site, starts):
+    """The calm standings of a site that is kept; raises BadStarts(), TooLarge(), then NotKept()."""
+    graph = calm_graph(site, starts)
+    if not is_kept_graph(graph):
+        raise NotKept()
+    return graph
+
+
+def graph_from(site, standing, most_standings=MOST_STANDINGS):
+    """What can be reached from a standing by moves that are not bad; raises TooLarge()."""
+    return explored(standing, lambda node: _calm_steps(site, node), most_standings, MOST_MOVES)
 
 
 def is_kept_graph(graph):
     """Whether a walk from the first node of a graph goes on for ever."""
     return 0 not in lost_times(graph.arrows)
+
+
+def is_plan_of(graph, plan):
+    """Whether any value is a plan from the first node of a graph."""
+    if not is_pair(plan):
+        return False
+    run, loop = plan
+    if not isinstance(run, list) or not isinstance(loop, list) or not loop:
+        return False
+    entry = number_behind(graph, 0, run)
+    return entry is not None and number_behind(graph, entry, loop) == entry
+
+
+def number_behind(graph, number, run):
+    """The number behind a list of things, None if one of them is no move that is not bad."""
+    for move in run:
+        if number is not None:
+            number = graph.target(number, move)
+    return number
 
 
 def number_in(site, graph, value):
@@ -123,11 +147,3 @@ def _is_safe_choice(site, graph, lost, standing, move):
     # Only from a safe standing does a move lead to a safe one.
     end = graph.target(number, move)
     return end is not None and end not in lost
-
-
-def _number_behind(graph, number, run):
-    """The number behind a list of things, None if one of them is no move that is not bad."""
-    for move in run:
-        if number is not None:
-            number = graph.target(number, move)
-    return number

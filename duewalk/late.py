@@ -1,6 +1,6 @@
 """Late places: the least share of them, loops that have it, and weights that show it."""
 
-from duewalk.graphs import explored, shortest_way
+from duewalk.graphs import explored, way_to
 from duewalk.keeping import MOST_MOVES, MOST_STANDINGS, number_in
 from duewalk.shares import fit_weights, least_loop
 from duewalk.walks import behind, is_whole, moves_of, start_of
@@ -17,8 +17,7 @@ def share_loop(site, starts):
     graph = _late_graph(site, starts)
     _, loop, _ = least_loop(_late_rows(site, graph))
     entry, _ = loop[0]
-    run = [] if entry == 0 else shortest_way(graph.arrows, 0, entry)
-    return run, [graph.arrows[number][index][0] for number, index in loop]
+    return way_to(graph.arrows, entry), [graph.arrows[number][index][0] for number, index in loop]
 
 
 def share_weights(site, starts):

@@ -1,8 +1,8 @@
 """Limits: how far they can be lowered, and how much greater all of them must be."""
 
-from duewalk.errors import NotKept, UnknownPlace
+from duewalk.errors import UnknownPlace
 from duewalk.graphs import lost_times
-from duewalk.keeping import calm_graph, is_kept_graph
+from duewalk.keeping import calm_graph, is_kept_graph, kept_graph
 from duewalk.sites import with_limits
 from duewalk.walks import is_place, start_of
 
@@ -14,13 +14,13 @@ def least_limit(site, starts, place):
     start_of(site, starts)
     if not is_place(site, place):
         raise UnknownPlace(place)
-    graph = _kept_graph(site, starts)
+    graph = kept_graph(site, starts)
     return _least_at(graph, list(site.limits), site.names.index(place))
 
 
 def tight_limits(site, starts):
     """The list of the tight limits; raises BadStarts(), TooLarge(), then NotKept()."""
-    graph = _kept_graph(site, starts)
+    graph = kept_graph(site, starts)
     limits = list(site.limits)
     for at in range(len(limits)):
         limits[at] = _least_at(graph, limits, at)
@@ -34,14 +34,6 @@ def stretch(site, starts):
         if is_kept_graph(calm_graph(greater, starts)):
             return more
     return None
-
-
-def _kept_graph(site, starts):
-    """The graph of the calm standings; raises BadStarts(), TooLarge(), then NotKept()."""
-    graph = calm_graph(site, starts)
-    if not is_kept_graph(graph):
-        raise NotKept()
-    return graph
 
 
 def _least_at(graph, limits, at):

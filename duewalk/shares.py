@@ -1,21 +1,26 @@
 """Shares: the loop with the least cost for each of its arrows, and the weights that show that none has less.
 
-A graph is told by rows here: for each number a list, not empty, of arrows (end, cost).
-A loop is a list of pairs (number, index of the arrow in its row); a share is a fraction.
+A graph is told by rows here: for each number a list of arrows (end, cost). A loop is
+a list of pairs (number, index of the arrow in its row); a share is a fraction.
 """
 
 from math import gcd
 
 
 def least_loop(rows):
-    """(share, loop, weights): the least share of all loops, a loop that has it, and weights for it."""
-    loop = _least_of(rows, _loops_of(rows, [_cheapest(row) for row in rows]))
-    while True:
+    """(share, loop, weights): the least share of all loops, a loop that has it, and weights for it.
+
+    There must be a loop.
+    """
+    # Each loop has less than this one, so that the first look finds some.
+    share = max([cost for row in rows for _, cost in row]) + 1, 1
+    loop = None
+    weights, better = _weighed(rows, share)
+    while better:
+        loop = _least_of(rows, better)
         share = _share_of(rows, loop)
         weights, better = _weighed(rows, share)
-        if not better:
-            return share, loop, weights
-        loop = _least_of(rows, better)
+    return share, loop, weights
 
 
 def fit_weights(rows, share, weights):
@@ -51,12 +56,6 @@ def _cost_above(cost, share):
     """What a cost is above a share, times the bottom of the share."""
     top, bottom = share
     return bottom * cost - top
-
-
-def _cheapest(row):
-    """The index of the first arrow with the least cost."""
-    costs = [cost for _, cost in row]
-    return costs.index(min(costs))
 
 
 def _loops_of(rows, choice):

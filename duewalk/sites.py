@@ -4,6 +4,8 @@ from duewalk.errors import InvalidText, NoWay
 
 MOST_PLACES = 6
 LONGEST_NAME = 8
+MOST_LIMIT = 9
+MOST_STEPS = 3
 LIMIT_WORDS = ("0", "1", "2", "3", "4", "5", "6", "7", "8", "9")
 STEP_WORDS = ("1", "2", "3")
 

@@ -29,6 +29,21 @@ INTERFACE = {
     "tours.py": "greatest_waits keeps_limits distances way_back shortest_tour",
     "limits.py": "least_limit tight_limits stretch",
     "late.py": "least_share share_loop share_weights are_weights",
+    "requests.py": "Asking calm_positions is_won walking_table requesting_table are_walking are_requesting",
+    "rules.py": "Rule keeps_list broken_list uncovered",
+    "sessions.py": "Session",
+    "toil.py": "toil_of run_toil least_toil restful_plan is_restful toil_weights are_toil_weights",
+    "stores.py": "need_table stock_table are_stocked short_times least_size",
+    "stocked.py": "need_positions stocked_walking are_stocked_walking stocked_requesting least_size_asked",
+    "costs.py": "rule_toil rule_weights are_rule_weights rule_size",
+    "watches.py": "Watch",
+}
+METHODS_OF = {
+    "Site": "__eq__ __str__ parse",
+    "Asking": "__eq__ __init__",
+    "Rule": "__eq__ __init__ states",
+    "Session": "__init__ site standing deeds move set_limit open_way shut_way add_walker back is_kept longest freedom",
+    "Watch": "__init__ position units deeds toil step is_won advice back",
 }
 
 
@@ -74,9 +89,38 @@ class Form(unittest.TestCase):
             self.assertEqual(len(bound), len(set(bound)), name)
 
     def test_interface(self):
+        self.assertLessEqual(set(INTERFACE), {name for name, _ in sources()})
         for name, text in sources():
             defined = [node.name for node in ast.parse(text).body if isinstance(node, (ast.FunctionDef, ast.ClassDef))]
             self.assertLessEqual(set(INTERFACE.get(name, "").split()), set(defined), name)
+
+    def test_methods_stand_in_their_own_classes(self):
+        seen = []
+        for _, text in sources():
+            for node in ast.parse(text).body:
+                if isinstance(node, ast.ClassDef) and node.name in METHODS_OF:
+                    seen.append(node.name)
+                    defined = {row.name for row in node.body if isinstance(row, ast.FunctionDef)}
+                    self.assertLessEqual(set(METHODS_OF[node.name].split()), defined, node.name)
+        self.assertEqual(sorted(METHODS_OF), sorted(seen))
+
+    def test_no_name_is_a_method_and_an_attribute(self):
+        for name, text in sources():
+            for node in ast.parse(text).body:
+                if isinstance(node, ast.ClassDef):
+                    methods = {row.name for row in node.body if isinstance(row, ast.FunctionDef)}
+                    attributes = {part.attr for part in ast.walk(node)
+                                  if isinstance(part, ast.Attribute) and isinstance(part.ctx, ast.Store)}
+                    self.assertFalse(methods & attributes, (name, node.name))
+
+    def test_generators_and_kept_iterators(self):
+        at_once = ("zip", "enumerate", "reversed", "range")
+        for name, text in sources():
+            for node in ast.walk(ast.parse(text)):
+                self.assertNotIsInstance(node, (ast.Yield, ast.YieldFrom, ast.Set), (name, getattr(node, "lineno", 0)))
+                if isinstance(node, ast.Assign) and isinstance(node.value, ast.Call):
+                    called = node.value.func
+                    self.assertNotIn(getattr(called, "id", None) or called.attr, at_once + ("items", "keys", "values"), name)
 
     def test_no_two_files_import_from_each_other(self):
         above = {name: {node.module.split(".")[1] + ".py" for node in ast.parse(text).body
