@@ -181,9 +181,11 @@ def _number_in(site, graph, value):
     """The number of a position, which may be any value; None if it is no calm one."""
     if not isinstance(value, tuple) or len(value) != 3:
         return None
-    standing, _, rest = value
+    standing, asked, rest = value
     # True and 1 are equal keys of a dict, so that the kinds must be looked at, too.
-    return graph.numbers.get(value) if is_standing(site, standing) and is_whole(rest) else None
+    if not is_standing(site, standing) or not is_whole(rest) or not (asked is None or is_place(site, asked)):
+        return None
+    return graph.numbers.get(value)
 
 
 def _are_won_moves(row, times, value):

@@ -103,7 +103,7 @@ def _are_keys(row, first):
     return (
         None in row
         and len(row) == len(first)
-        and all([key in first and (key is None or _is_a_name(key)) for key in row])
+        and all([(key is None or _is_a_name(key)) and key in first for key in row])
     )
 
 

@@ -8,11 +8,19 @@ def nested(value, depth):
     return value
 
 
+def deep_key():
+    """A key of a dict that is nested as deep as any value may be."""
+    value = "a"
+    for _ in range(50):
+        value = (value,)
+    return value
+
+
 def any_values():
     """New values of many kinds, none of which is a text, a standing, a move, a run or a list of starts."""
     return [
         None, True, False, 0, 1, -1, 10 ** 40, "", " ", "zz", "a b", "\n",
         (), [None], [True], [1], [[]], [["a"]], [("a",)], [{}], {}, {"a": 1}, {1: ["a"]}, {("a", 0): None},
         (1,), (None, None, None), ((), ()), (("a", 0), (0, 1, 2, 3, 4, 5, 6)), ([], []), ("a", "b", "c"),
-        nested("a", 50), nested((), 50), nested(1, 49), nested([], 48), nested({}, 49),
+        deep_key(), nested("a", 50), nested((), 50), nested(1, 49), nested([], 48), nested({}, 49),
     ]

@@ -6,7 +6,7 @@ import random
 import unittest
 from fractions import Fraction
 
-from anyvalues import any_values, nested
+from anyvalues import any_values, deep_key, nested
 from duewalk.costs import are_rule_weights, rule_size, rule_toil, rule_weights
 from duewalk.errors import BadStarts, NotKept, TooLarge, Unfit, UnknownPlace
 from duewalk.requests import Asking
@@ -130,6 +130,24 @@ class Costs(unittest.TestCase):
         self.assertEqual([((1, 1), None), ((2, 3), None), ((3, 5), None), ((4, 7), None), ((4, 7), None)], told)
         self.all_raise((NotKept,), site, ["a"], Asking(["b"], 1, 6), rule)
 
+    def test_sizes_that_just_will_do(self):
+        # Two walkers change places by ways of three steps, once, twice, or when it is requested.
+        site = Site.parse("a 2 stay -> b 3\nb 2 stay -> a 3")
+        there, back = ("b", "a"), ("a", "b")
+        once = Rule([{None: (1, there)}, {None: (1, there)}])
+        twice = Rule([{None: (1, there)}, {None: (2, there)}, {None: (3, there)}, {None: (4, back)}, {None: (4, back)}])
+        for rule, size in ((once, 6), (twice, 12)):
+            self.assertEqual(size, rule_size(site, ["a", "b"], NONE_ASKED, rule))
+            self.judge(site, ["a", "b"], NONE_ASKED, rule, rule_graph(site, ["a", "b"], NONE_ASKED, [rule]))
+        called = [{None: (0, back), "a": (1, there)}] + [{None: (at, there), "a": (at, there)} for at in (2, 3)]
+        called += [{None: (3, there), "a": (4, back)}] + [{None: (at, back), "a": (at, back)} for at in (5, 0)]
+        told = []
+        for pause in range(3, 13):
+            case = (site, ["a", "b"], Asking(["a"], 3, pause), Rule(called))
+            self.assertIsNone(broken_list(*case))
+            told.append(self.judge(*case, rule_graph(*case[:3], [Rule(called)]))[1])
+        self.assertEqual([None] * 6 + [6] * 4, told)
+
     def test_by_the_words_of_point_28(self):
         told = [self.judge(*case) for case in KEPT]
         self.assertGreater(len(KEPT), 60)
@@ -252,7 +270,7 @@ class Weights(unittest.TestCase):
                 without = {key: 0 for key in weights if key != post}
                 self.assertIs(False, are_rule_weights(*case, without))
                 self.assertIs(True, are_rule_weights(*case, {**without, kinds_changed(post): 0}))
-                for key in (None, 0, "a", (), post[0], post + (0,), (post[0], 6), (post[0], -1), (post[0], str(post[1])), nested(1, 1)[0]):
+                for key in (None, 0, "a", (), post[0], post + (0,), (post[0], 6), (post[0], -1), (post[0], str(post[1])), deep_key()):
                     self.assertIs(False, are_rule_weights(*case, {**without, key: 0}))
                     self.assertIs(False, are_rule_weights(*case, {**weights, key: 0}))
 

@@ -4,7 +4,7 @@ import copy
 import random
 import unittest
 
-from anyvalues import any_values, nested
+from anyvalues import any_values, deep_key, nested
 from duewalk.errors import BadStarts, TooLarge
 from duewalk.keeping import (
     are_safe, calm_standings, fewest_walkers, is_plan, kept_plan, longest_time, safe_table, time_table)
@@ -212,7 +212,7 @@ class SafeTables(unittest.TestCase):
             for node in list(table):
                 self.refuses(site, starts, {key: move for key, move in table.items() if key != node})
                 others = [None, 0, "a", (), node[0], (node[0], node[1], ()), (node[0], node[1] + (0,)), kinds_changed(node),
-                          (node[0], tuple(wait + 10 for wait in node[1])), (node[0] + (("a", 0),), node[1]), nested(1, 1)[0]]
+                          (node[0], tuple(wait + 10 for wait in node[1])), (node[0] + (("a", 0),), node[1]), deep_key()]
                 for other in others + lost:
                     changed = {key: move for key, move in table.items() if key != node}
                     self.refuses(site, starts, {**changed, other: table[node]})

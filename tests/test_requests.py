@@ -4,7 +4,7 @@ import copy
 import random
 import unittest
 
-from anyvalues import any_values, nested
+from anyvalues import any_values, deep_key, nested
 from duewalk.errors import BadAsking, BadStarts, TooLarge, UnknownPlace
 from duewalk.keeping import safe_table
 from duewalk.requests import (
@@ -14,6 +14,7 @@ from duewalk.walks import moves_from, start_of
 from games import (
     are_allowed, broken_times, position_graph, request_times, requests_of, some_asking, some_askings, step_behind,
     told_by_history, tuples_of)
+from test_keeping import kinds_changed
 from oracles import CASES, FAR_PAIR, LINE, NO_WAY_TO, ONE, PAIR, TIGHT_LINE, WIDE_LINE, raised, some_site
 
 STAYING = Site.parse("a 9 stay -> b 1\nb 9 stay -> a 1")
@@ -324,11 +325,13 @@ class Tables(unittest.TestCase):
                     standing, asked, rest = node
                     for key in (standing, (standing, asked), (standing, asked, rest + 12), (standing, "zz", rest), (standing, asked, -1),
                                 (standing, asked, rest, None), node[:2] + ("0",), ((standing[0], ()), asked, rest), None, 0, "a", (),
-                                (None, None, 0), ((), None, 0), nested(1, 1)[0], *list(other)[:3]):
+                                (None, None, 0), ((), None, 0), deep_key(), *list(other)[:3]):
                         if key not in without:
                             self.refuses(call, case, {**without, key: told})
                     if rest in (0, 1):
                         self.refuses(call, case, {**without, (standing, asked, bool(rest)): told})
+                    self.refuses(call, case, {**without, (kinds_changed(standing), asked, rest): told})
+                    self.refuses(call, case, {**without, (standing, deep_key(), rest): told})
                     for key in [*list(other)[:2], None, 7, (standing, asked, 99)]:
                         self.refuses(call, case, {**table, key: told})
 

@@ -4,7 +4,7 @@ import copy
 import random
 import unittest
 
-from anyvalues import any_values, nested
+from anyvalues import any_values, deep_key, nested
 from duewalk.errors import BadRequest, BadRule, BadStarts, TooLarge, Unfit, UnknownPlace
 from duewalk.requests import Asking, is_won, requesting_table
 from duewalk.rules import Rule, broken_list, keeps_list, uncovered
@@ -118,7 +118,7 @@ class Rules(unittest.TestCase):
         pair = (0, ("a",))
         for row in ({"a": pair}, {None: pair, "A": pair}, {None: pair, "": pair}, {None: pair, 0: pair}, {None: pair, ("a",): pair},
                     {None: pair, "ninechars": pair}, {None: pair, False: pair}, {None: pair, nested("a", 1)[0] + "1": pair},
-                    {None: pair, (("a", 0),): pair}, {None: pair, "a b": pair}, {"None": pair}, {0: pair}, {None: pair, 10 ** 30: pair}):
+                    {None: pair, (("a", 0),): pair}, {None: pair, "a b": pair}, {None: pair, deep_key(): pair}, {"None": pair}, {0: pair}, {None: pair, 10 ** 30: pair}):
             self.assertEqual((BadRule,), raised(Rule, [row]), row)
             self.assertEqual((BadRule,), raised(Rule, [row, row]), row)
         a, b, both = {None: pair, "a": pair}, {None: pair, "b": pair}, {None: pair, "a": pair, "b": pair}
@@ -135,6 +135,9 @@ class Rules(unittest.TestCase):
             for states in ([{None: right}, {None: value}], [{None: value}, {None: right}],
                            [{None: right, "a": right}, {None: right, "a": value}]):
                 self.assertEqual((BadRule,), raised(Rule, states), repr(value))
+        for ends in ((), ("a",) * 3, ("a",) * 4):
+            self.assertEqual((BadRule,), raised(Rule, [{None: (0, ends)}]))
+            self.assertEqual((BadRule,), raised(Rule, [{None: (0, ends), "b": (0, ends)}] * 3))
         self.assertIsNone(raised(Rule, [{None: (1, ("a",))}, {None: right}]))
         self.assertEqual((BadRule,), raised(Rule, [{None: (6, ("a",))}] * 6))
         self.assertIsNone(raised(Rule, [{None: (5, ("a",))}] * 6))

@@ -4,7 +4,7 @@ import copy
 import random
 import unittest
 
-from anyvalues import any_values, nested
+from anyvalues import any_values, deep_key, nested
 from duewalk.errors import BadStarts, TooLarge, UnknownPlace
 from duewalk.requests import Asking, is_won
 from duewalk.sites import Site
@@ -228,7 +228,7 @@ class Tables(unittest.TestCase):
                 without = {key: row for key, row in table.items() if key != node}
                 self.refuses(case, without)
                 self.assertIs(True, are_stocked_walking(*case, {**without, kinds_changed(node): table[node]}))
-                for key in (None, 0, "a", (), node[0], node + (0,), (node, 1), (*node[:2], 13), (node[0], "zz", node[2]), nested(1, 1)[0],
+                for key in (None, 0, "a", (), node[0], node + (0,), (node, 1), (*node[:2], 13), (node[0], "zz", node[2]), deep_key(),
                             *others[:3]):
                     self.refuses(case, {**without, key: table[node]})
                     self.refuses(case, {**table, key: table[node]})

@@ -5,7 +5,7 @@ import random
 import unittest
 from fractions import Fraction
 
-from anyvalues import any_values, nested
+from anyvalues import any_values, deep_key, nested
 from duewalk.errors import BadStarts, TooLarge
 from duewalk.keeping import longest_time, safe_table
 from duewalk.sites import Site, turned, with_limits
@@ -202,7 +202,7 @@ class Tables(unittest.TestCase):
                 without = {key: move for key, move in table.items() if key != node}
                 self.refuses(case, without)
                 self.assertIs(True, are_stocked(*case, {**without, kinds_changed(node): table[node]}))
-                for key in (None, 0, "a", (), node[0], node + (0,), (node, 1), (node[0], node[1] + (0,)), nested(1, 1)[0], *others[:3]):
+                for key in (None, 0, "a", (), node[0], node + (0,), (node, 1), (node[0], node[1] + (0,)), deep_key(), *others[:3]):
                     self.refuses(case, {**without, key: table[node]})
                     self.refuses(case, {**table, key: table[node]})
 

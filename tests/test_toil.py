@@ -6,7 +6,7 @@ import random
 import unittest
 from fractions import Fraction
 
-from anyvalues import any_values, nested
+from anyvalues import any_values, deep_key, nested
 from duewalk.errors import BadMove, BadStanding, BadStarts, NotKept, TooLarge
 from duewalk.keeping import is_plan, kept_plan, longest_time
 from duewalk.sites import Site, turned, with_limits
@@ -306,7 +306,7 @@ class Weights(unittest.TestCase):
                 without = {key: 0 for key in weights if key != node}
                 self.assertIs(False, are_toil_weights(site, starts, (0, 1), without))
                 self.assertIs(True, are_toil_weights(site, starts, (0, 1), {**without, kinds_changed(node): 0}))
-                for other in (None, 0, "a", (), node[0], node + (0,), (node[0], node[1] + (0,)), nested(1, 1)[0],
+                for other in (None, 0, "a", (), node[0], node + (0,), (node[0], node[1] + (0,)), deep_key(),
                               (node[0], tuple(wait + 20 for wait in node[1]))):
                     self.assertIs(False, are_toil_weights(site, starts, (0, 1), {**without, other: 0}))
                     self.assertIs(False, are_toil_weights(site, starts, (0, 1), {**weights, other: 0}))
