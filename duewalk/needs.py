@@ -5,8 +5,6 @@ the lists of its answers (move, end, toil).
 """
 
 MOST_SIZE = 12
-# More than any store has.
-NO_NEED = 13
 
 
 def needs_of(rows, size):
@@ -59,7 +57,7 @@ def _unit_ends(answers, units, size):
 
 
 def _risen(rows, size, needs):
-    """The needs with a store of a size, NO_NEED for none, found from such as are not above them."""
+    """The needs with a store of a size, above it for none, found from such as are not above them."""
     needs = list(needs)
     before = _starts_before(rows)
     waiting = list(reversed(range(len(rows))))
@@ -75,9 +73,9 @@ def _risen(rows, size, needs):
 
 
 def _need_with(answers, needs, size):
-    """The least units with which one of some answers will do, as the needs are told; NO_NEED for none."""
+    """The least units with which one of some answers will do, as the needs are told; above the size for none."""
     enough = [needs[end] + toil if toil else max(0, needs[end] - 1) for _, end, toil in answers if needs[end] <= size]
-    return min([need for need in enough if need <= size], default=NO_NEED)
+    return min([need for need in enough if need <= size], default=size + 1)
 
 
 def _starts_before(rows):

@@ -133,6 +133,16 @@ class Stocked(unittest.TestCase):
         self.assertGreater(sum(broken > 0 and walking > 0 for _, broken, walking, _ in told), 20)
         self.assertGreater(max(time for *_, time in told), 9)
 
+    def test_sizes_somewhat_beyond(self):
+        for site, starts, asking, graph in (NAMED + RESTED)[::5]:
+            for size in (13, 20):
+                stocked = stocked_graph(graph, size)
+                self.assertEqual(needs_by_point_26(stocked, size), need_positions(site, starts, asking, size))
+                self.assertEqual(set(broken_times(stocked)), set(stocked_requesting(site, starts, asking, size)))
+                self.assertIs(True, are_stocked_walking(site, starts, asking, size, stocked_walking(site, starts, asking, size)))
+            for call in (need_positions, stocked_walking, stocked_requesting):
+                self.assertIsNone(raised(call, site, starts, asking, -1))
+
     def test_as_large_as_may_be(self):
         for text, starts, places, answer, pause, positions, tuples in SMALL_ENOUGH:
             site, asking = Site.parse(text), Asking(places, answer, pause)

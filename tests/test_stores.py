@@ -134,6 +134,16 @@ class Stores(unittest.TestCase):
         self.assertGreater(sum(none > 0 and most not in (None, 0) for none, most, _ in told), 5)
         self.assertGreater(len({least for _, _, least in told}), 4)
 
+    def test_sizes_somewhat_beyond(self):
+        for site, starts in (NAMED + RESTING)[::2]:
+            for size in (13, 20):
+                stocked = stocked_graph(site, starts, size)
+                self.assertEqual(needs_by_point_26(stocked, size), need_table(site, starts, size))
+                self.assertEqual(broken_times(stocked), short_times(site, starts, size))
+                self.assertIs(True, are_stocked(site, starts, size, stock_table(site, starts, size)))
+            for call in (need_table, stock_table, short_times):
+                self.assertIsNone(raised(call, site, starts, -1))
+
     def test_as_large_as_may_be(self):
         for text, starts, standings, moves in SMALL_ENOUGH:
             site = Site.parse(text)

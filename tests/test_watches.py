@@ -138,6 +138,12 @@ class Watches(unittest.TestCase):
             self.assertEqual((positions, tuples), (len(graph), tuples_of(site, graph)))
             self.judge(chance, site, starts, asking, graph, 4, 40)
 
+    def test_sizes_somewhat_beyond(self):
+        chance = random.Random(143)
+        for site, starts, asking, graph in (NAMED + RESTED)[::5]:
+            self.judge(chance, site, starts, asking, graph, 20, 10)
+            self.assertIs(False, Watch(site, starts, asking, -1).is_won())
+
     def test_won_at_the_beginning_just_if_the_size_will_do(self):
         for site, starts, asking, _ in NAMED[::2] + RESTED:
             least = least_size_asked(site, starts, asking)
