@@ -40,15 +40,13 @@ def calm_positions(site, starts, asking):
 
 def is_won(site, starts, asking):
     """Whether the position at the beginning is won."""
-    graph = position_graph(site, starts, asking, MOST_POSITIONS)
-    return 0 not in _times_of(request_rows(asking, graph))
+    _, _, times = _judged(site, starts, asking)
+    return 0 not in times
 
 
 def walking_table(site, starts, asking):
     """A dict from the won positions to dicts from requests to moves that lead to won positions."""
-    graph = position_graph(site, starts, asking, MOST_POSITIONS)
-    rows = request_rows(asking, graph)
-    times = _times_of(rows)
+    graph, rows, times = _judged(site, starts, asking)
     table = {}
     for number, position in enumerate(graph.nodes):
         if number not in times:
@@ -58,9 +56,7 @@ def walking_table(site, starts, asking):
 
 def requesting_table(site, starts, asking):
     """A dict from the broken positions to pairs of a request with the least time, and this time."""
-    graph = position_graph(site, starts, asking, MOST_POSITIONS)
-    rows = request_rows(asking, graph)
-    times = _times_of(rows)
+    graph, rows, times = _judged(site, starts, asking)
     table = {}
     for number, time in times.items():
         table[graph.nodes[number]] = _soonest(rows[number], times, time)[0], time
@@ -69,9 +65,7 @@ def requesting_table(site, starts, asking):
 
 def are_walking(site, starts, asking, table):
     """Whether any value is a walking table."""
-    graph = position_graph(site, starts, asking, MOST_POSITIONS)
-    rows = request_rows(asking, graph)
-    times = _times_of(rows)
+    graph, rows, times = _judged(site, starts, asking)
     if not isinstance(table, dict) or len(table) != len(graph.nodes) - len(times):
         return False
     told = [(_number_in(site, graph, position), moves) for position, moves in table.items()]
@@ -83,9 +77,7 @@ def are_walking(site, starts, asking, table):
 
 def are_requesting(site, starts, asking, table):
     """Whether any value is a requesting table."""
-    graph = position_graph(site, starts, asking, MOST_POSITIONS)
-    rows = request_rows(asking, graph)
-    times = _times_of(rows)
+    graph, rows, times = _judged(site, starts, asking)
     if not isinstance(table, dict) or len(table) != len(times):
         return False
     told = [(_number_in(site, graph, position), pair) for position, pair in table.items()]
@@ -167,9 +159,11 @@ def _steps_from(site, asking, position):
     ]
 
 
-def _times_of(rows):
-    """A dict from the numbers of the broken positions to their times."""
-    return round_times([[[end for _, end in arrows] for arrows in row.values()] for row in rows])
+def _judged(site, starts, asking):
+    """(graph of the calm positions, rows of the requests, times of the broken ones by their numbers)."""
+    graph = position_graph(site, starts, asking, MOST_POSITIONS)
+    rows = request_rows(asking, graph)
+    return graph, rows, round_times([[[end for _, end in arrows] for arrows in row.values()] for row in rows])
 
 
 def _won_move(arrows, times):
